@@ -62,14 +62,18 @@ STEPS_OF_HANDS = {
 }
 
 
+# A step that leaves a place where it is would leave it there each further time, so a great count ends early.
+def place_after(text, place, step, times):
+    for time in range(times):
+        stepped = step(text, place)
+        if stepped == place:
+            return place
+        place = stepped
+    return place
+
+
 def hands_after(editor, step):
-    hands = []
-    for one in editor.selected.each:
-        hand = one.hand
-        for time in range(editor.times()):
-            hand = step(editor.text, hand)
-        hands.append(hand)
-    return hands
+    return [place_after(editor.text, one.hand, step, editor.times()) for one in editor.selected.each]
 
 
 def move_carets(editor, key):

@@ -6,13 +6,15 @@ from keyeditor.state import Editor
 
 TEXT = 0
 KEYS = 1
-SHOWS = 2
-SELECTIONS = 3
 
 
 def is_refused(call, row):
     most = MOST_KEYS if call == KEYS else MOST_BYTES
     return len(row) > most or any([number > GREATEST_BYTE for number in row])
+
+
+def counted(numbers):
+    return [len(numbers)] + numbers
 
 
 def places_of(selections):
@@ -34,7 +36,7 @@ def answer_of_keys(editor, keys):
 
 
 def answer_of_shows(editor):
-    return [len(editor.text)] + editor.text
+    return counted(editor.text)
 
 
 def answer_of_selections(editor):
@@ -43,14 +45,39 @@ def answer_of_selections(editor):
     return answer_of_selected(editor) + [len(editor.kept.each) + 1] + places_of(editor.kept)
 
 
+def answer_of_registers(editor):
+    answer = [len(editor.pieces)]
+    for piece in editor.pieces:
+        answer.extend(counted(piece))
+    return answer + counted(editor.searched) + counted(editor.last_change)
+
+
+# 0 stands for no recording, so one that has no keys yet is 1.
+def answer_of_macro(editor):
+    if editor.recorded is None:
+        return counted(editor.macro) + [0]
+    return counted(editor.macro) + [len(editor.recorded) + 1] + editor.recorded
+
+
+def answer_of_steps(editor):
+    return [len(editor.undoable), len(editor.redoable), editor.count]
+
+
+# The calls that are handed nothing: they only tell.
+TELLING = {
+    2: answer_of_shows,
+    3: answer_of_selections,
+    4: answer_of_registers,
+    5: answer_of_macro,
+    6: answer_of_steps,
+}
+
+
 def answer_of(editor, call, row):
     if call == KEYS:
         return answer_of_keys(editor, row)
-    if call == SHOWS:
-        return answer_of_shows(editor)
-    if call == SELECTIONS:
-        return answer_of_selections(editor)
-    raise ValueError("no such call")
+    action = TELLING[call]
+    return action(editor)
 
 
 # Calls as (number, row), the row empty for calls that are handed none.

@@ -8,6 +8,9 @@ ESC = "\x1b"
 DEL = "\x7f"
 SHOWS = [2]
 SELECTIONS = [3]
+REGISTERS = [4]
+MACRO = [5]
+STEPS = [6]
 
 
 def numbers(text):
@@ -67,6 +70,31 @@ class Seen:
         assert kept[0] == (0 if self.kept is None else 1 + len(self.kept))
 
 
+def counted_texts(answer, at, much):
+    """That many texts, each with how many bytes it has before it, and where they end."""
+    texts = []
+    for time in range(much):
+        end = at + 1 + answer[at]
+        texts.append(bytes(answer[at + 1:end]).decode("latin-1"))
+        assert len(texts[-1]) == answer[at]
+        at = end
+    return texts, at
+
+
+class Told:
+    """What registers, macro and steps tell after a text and keys; recorded is None if nothing is being recorded."""
+
+    def __init__(self, text, keys):
+        registers, macro, steps = ask(text_call(text), *press_calls(keys), REGISTERS, MACRO, STEPS)[-3:]
+        self.pieces, at = counted_texts(registers, 1, registers[0])
+        (self.searched, self.last_change), end = counted_texts(registers, at, 2)
+        assert end == len(registers)
+        (self.macro,), end = counted_texts(macro, 0, 1)
+        self.recorded = None if macro[end] == 0 else bytes(macro[end + 1:]).decode("latin-1")
+        assert len(macro) - end == max(macro[end], 1)
+        self.undone, self.again, self.count = steps
+
+
 class EditorTest(unittest.TestCase):
     def check(self, text, keys, sels, becomes=None, main=0, mode=0, kept=None):
         """After keys on text: the selections as (anchor, hand), the text (the same if none is told), and so on."""
@@ -79,3 +107,8 @@ class EditorTest(unittest.TestCase):
 
     def check_text(self, text, keys, becomes):
         self.assertEqual(Seen(text, keys).text, becomes)
+
+    def check_told(self, text, keys, **expected):
+        """Those told of pieces, searched, last_change, macro, recorded, undone, again and count."""
+        told = vars(Told(text, keys))
+        self.assertEqual({name: told[name] for name in expected}, expected, keys)

@@ -5,7 +5,7 @@ import io
 import unittest
 
 from keyeditor.editor import answers
-from tests.helper import DEL, ESC, SELECTIONS, SHOWS, ask, keys_call, parted, text_call
+from tests.helper import DEL, ESC, MACRO, REGISTERS, SELECTIONS, SHOWS, STEPS, ask, keys_call, parted, text_call
 
 BIG = 4294967295
 
@@ -132,18 +132,21 @@ class Interface(unittest.TestCase):
         fresh = [[0, 0, 0, 1, 0, 0], [0], [0, 1, 0, 0, 0]]
         ask(text_call("abc abc"), keys_call("%sb\nz~ydq3l"), keys_call("q/a\n"), keys_call("iX"))
         self.assertEqual(ask(keys_call(""), SHOWS, SELECTIONS), fresh)
+        self.assertEqual(ask(REGISTERS, MACRO, STEPS), [[0, 0, 0], [0, 0], [0, 0, 0]])
         for key in "pPnNZuU.@q":
             self.assertEqual(ask(keys_call(key), SHOWS, SELECTIONS), fresh)
 
     def test_kinds(self):
-        given = answers(text_call("ab") + keys_call("%z~") + SHOWS + SELECTIONS + keys_call([256]))
+        given = answers(text_call("ab") + keys_call("%z~yq") + SHOWS + SELECTIONS + REGISTERS + MACRO + STEPS
+                        + keys_call([256]))
         self.assertIs(type(given), list)
         self.assertEqual({type(number) for number in given}, {int})
 
     def test_nothing_is_printed(self):
         out = io.StringIO()
         with contextlib.redirect_stdout(out), contextlib.redirect_stderr(out):
-            answers(text_call("ab") + keys_call("%z~") + SHOWS + SELECTIONS + text_call([256]))
+            answers(text_call("ab") + keys_call("%z~yq") + SHOWS + SELECTIONS + REGISTERS + MACRO + STEPS
+                    + text_call([256]))
         self.assertEqual(out.getvalue(), "")
 
     def test_longest_list(self):
